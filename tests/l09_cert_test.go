@@ -323,6 +323,14 @@ func TestLettersThatAreNothing(t *testing.T) {
 	}
 }
 
+// edgeNumbers: numbers about the limits of all fields, and far from them.
+func edgeNumbers() []int {
+	return []int{
+		-1, -2, -99, -256, 0, 1, 2, 6, 7, 8, 9, 10, 11, 15, 98, 99, 100, 101, 127, 128, 129, 255, 256, 257, 9998, 9999, 10000, 10001, 32767, 32768, 65535, 65536, 65537,
+		999999999, 1000000000, 1000000001, math.MaxInt32, math.MinInt32, 1 << 32, 1<<32 + 1, 1<<40 + 5, math.MaxInt, math.MinInt, math.MinInt + 1,
+	}
+}
+
 func TestLetterNumbers(t *testing.T) {
 	fields := []struct {
 		most int
@@ -334,13 +342,9 @@ func TestLetterNumbers(t *testing.T) {
 		{99, func(c *impl.Cert) *int { return &c.PathLen }},
 		{7, func(c *impl.Cert) *int { return &c.Usage }},
 	}
-	numbers := []int{
-		-1, -2, -99, -256, 0, 1, 2, 6, 7, 8, 9, 15, 98, 99, 100, 101, 127, 128, 129, 255, 256, 257, 9998, 9999, 10000, 10001, 32767, 32768, 65535, 65536, 65537,
-		999999999, 1000000000, 1000000001, math.MaxInt32, math.MinInt32, 1 << 32, 1<<32 + 1, 1<<40 + 5, math.MaxInt, math.MinInt, math.MinInt + 1,
-	}
 	for _, c := range []impl.Cert{someLetter(), bareLetter(), fullLetter()} {
 		for _, field := range fields {
-			for _, n := range numbers {
+			for _, n := range edgeNumbers() {
 				checkLetter(t, changed(c, func(c *impl.Cert) { *field.of(c) = n }), n >= 0 && n <= field.most)
 			}
 		}
@@ -419,6 +423,18 @@ func TestLetterKeysAndSigs(t *testing.T) {
 	}
 }
 
+// drawnKey: any bytes, of a key or of a signature.
+func drawnKey(source *rand.Rand) string {
+	text := make([]byte, impl.KeySize)
+	source.Read(text)
+	return string(text)
+}
+
+// drawnNumber: one in 0 .. most, often one of its ends.
+func drawnNumber(source *rand.Rand, most int) int {
+	return []int{0, most, source.Intn(most + 1), source.Intn(most + 1)}[source.Intn(4)]
+}
+
 // drawnLetter: a right one.
 func drawnLetter(source *rand.Rand) impl.Cert {
 	names := func() []string {
@@ -428,21 +444,14 @@ func drawnLetter(source *rand.Rand) impl.Cert {
 		}
 		return slices.Compact(slices.Sorted(slices.Values(list)))
 	}
-	octets := func() string {
-		text := make([]byte, impl.KeySize)
-		source.Read(text)
-		return string(text)
-	}
-	number := func(most int) int {
-		return []int{0, most, source.Intn(most + 1), source.Intn(most + 1)}[source.Intn(4)]
-	}
+	number := func(most int) int { return drawnNumber(source, most) }
 	policies := []int{}
 	for range source.Intn(5) {
 		policies = append(policies, number(99))
 	}
 	return impl.Cert{
-		Serial: number(9999), Issuer: drawnName(source), Subject: drawnName(source), From: number(9999), To: number(9999), Key: octets(), Ca: source.Intn(2) == 0, PathLen: number(99), Usage: source.Intn(8),
-		Policies: slices.Compact(slices.Sorted(slices.Values(policies))), Permits: names(), Denies: names(), Sig: octets(),
+		Serial: number(9999), Issuer: drawnName(source), Subject: drawnName(source), From: number(9999), To: number(9999), Key: drawnKey(source), Ca: source.Intn(2) == 0, PathLen: number(99), Usage: source.Intn(8),
+		Policies: slices.Compact(slices.Sorted(slices.Values(policies))), Permits: names(), Denies: names(), Sig: drawnKey(source),
 	}
 }
 
@@ -609,21 +618,25 @@ func TestBodiesThatCannotBe(t *testing.T) {
 	}
 }
 
-func TestNoBytesAreNoLetter(t *testing.T) {
-	checkNoLetter(t, "")
+// strayTexts: no bytes at all, few and many of one kind, and those of drawn items.
+func strayTexts(t *testing.T, source *rand.Rand) []string {
+	t.Helper()
+	list := []string{""}
 	for b := range 256 {
-		checkNoLetter(t, string([]byte{byte(b)}))
-		checkNoLetter(t, string([]byte{48, byte(b)}))
+		list = append(list, string([]byte{byte(b)}), string([]byte{48, byte(b)}))
 	}
 	for _, size := range []int{1, 100, 3999, 4000, 4001, 100000} {
-		checkNoLetter(t, strings.Repeat("\x00", size))
-		checkNoLetter(t, strings.Repeat("\x30", size))
-		checkNoLetter(t, strings.Repeat("\xff", size))
-		checkNoLetter(t, textOfSize(size))
+		list = append(list, strings.Repeat("\x00", size), strings.Repeat("\x30", size), strings.Repeat("\xff", size), textOfSize(size))
 	}
-	source := rand.New(rand.NewSource(92))
 	for range 3000 {
-		checkNoLetter(t, textByLibrary(t, drawnItem(source, 4, 20)))
+		list = append(list, textByLibrary(t, drawnItem(source, 4, 20)))
+	}
+	return list
+}
+
+func TestNoBytesAreNoLetter(t *testing.T) {
+	for _, text := range strayTexts(t, rand.New(rand.NewSource(92))) {
+		checkNoLetter(t, text)
 	}
 }
 
@@ -651,48 +664,53 @@ func TestLettersWithBytesTurned(t *testing.T) {
 	}
 }
 
+// textsMoreAndLess: a text without some of its bytes, with others between or behind, twice, and with its length told in other ways.
+func textsMoreAndLess(text string) []string {
+	list := []string{}
+	for at := range len(text) {
+		list = append(list, text[:at], text[at+1:], text[:at]+text[at+1:])
+		for _, b := range []string{"\x00", "\x01", "\x02", "\x04", "\x0c", "\x30", "a", ".", "\x80", "\x81", "\xff", text[at : at+1]} {
+			list = append(list, text[:at]+b+text[at:])
+		}
+	}
+	for b := range 256 {
+		list = append(list, text+string([]byte{byte(b)}))
+	}
+	return append(list, text+text, text[2:], "\x30\x82\x00"+text[2:], "\x30\x80"+text[2:]+"\x00\x00")
+}
+
+// drawnDamage: the text with one to three of its bytes made others.
+func drawnDamage(source *rand.Rand, text string) string {
+	bytes := []byte(text)
+	for range source.Intn(3) + 1 {
+		at := source.Intn(len(bytes))
+		switch source.Intn(4) {
+		case 0:
+			bytes[at] = byte(source.Intn(256))
+		case 1:
+			bytes[at]++
+		case 2:
+			bytes[at] = []byte{0, 1, 2, 4, 12, 48, 128, 129, 255}[source.Intn(9)]
+		case 3:
+			other := source.Intn(len(bytes))
+			bytes[at], bytes[other] = bytes[other], bytes[at]
+		}
+	}
+	return string(bytes)
+}
+
 func TestLettersWithBytesMoreAndLess(t *testing.T) {
 	for _, c := range []impl.Cert{someLetter(), bareLetter(), fullLetter(), impl.Signed(someLetter(), 3)} {
 		text, _ := impl.CertText(c)
-		for at := range len(text) {
-			checkNoLetter(t, text[:at])
-			checkNoLetter(t, text[at+1:])
-			checkNoLetter(t, text[:at]+text[at+1:])
-			for _, b := range []string{"\x00", "\x01", "\x02", "\x04", "\x0c", "\x30", "a", ".", "\x80", "\x81", "\xff", text[at : at+1]} {
-				checkNoLetter(t, text[:at]+b+text[at:])
-			}
+		for _, other := range append(textsMoreAndLess(text), impl.BodyText(c), impl.BodyText(c)+c.Sig) {
+			checkNoLetter(t, other)
 		}
-		for b := range 256 {
-			checkNoLetter(t, text+string([]byte{byte(b)}))
-		}
-		checkNoLetter(t, text+text)
-		checkNoLetter(t, impl.BodyText(c))
-		checkNoLetter(t, impl.BodyText(c)+c.Sig)
-		checkNoLetter(t, text[2:])
-		// Lengths in a longer form, and without end.
-		checkNoLetter(t, "\x30\x82\x00"+text[2:])
-		checkNoLetter(t, "\x30\x80"+text[2:]+"\x00\x00")
 	}
 	source := rand.New(rand.NewSource(93))
 	right := 0
 	for range 40000 {
 		text, _ := impl.CertText(drawnLetter(source))
-		bytes := []byte(text)
-		for range source.Intn(3) + 1 {
-			at := source.Intn(len(bytes))
-			switch source.Intn(4) {
-			case 0:
-				bytes[at] = byte(source.Intn(256))
-			case 1:
-				bytes[at]++
-			case 2:
-				bytes[at] = []byte{0, 1, 2, 4, 12, 48, 128, 129, 255}[source.Intn(9)]
-			case 3:
-				other := source.Intn(len(bytes))
-				bytes[at], bytes[other] = bytes[other], bytes[at]
-			}
-		}
-		if checkReadLetter(t, string(bytes)) {
+		if checkReadLetter(t, drawnDamage(source, text)) {
 			right++
 		}
 	}
@@ -712,36 +730,41 @@ func strangers() []impl.Item {
 	}
 }
 
-// TestItemsThatAreNoLetter: at each place of a letter's item each of strangers, in place of what stands there, ahead of it and behind it; each kid left out, twice, or the next one ahead of it; other tags.
-func TestItemsThatAreNoLetter(t *testing.T) {
-	for _, c := range []impl.Cert{someLetter(), bareLetter(), fullLetter()} {
-		whole := letterByHand(t, c)
-		right := 0
-		try := func(place int, change func(x *impl.Item)) {
-			x := cloned(whole)
-			change(allOf(&x)[place])
-			if checkReadLetter(t, textByLibrary(t, x)) {
-				right++
+// itemsBeside: at each place of an item each of strangers, in place of what stands there, ahead of it and behind it; each kid left out, twice, or in another one's place; other tags.
+func itemsBeside(whole impl.Item) []impl.Item {
+	list := []impl.Item{}
+	try := func(place int, change func(x *impl.Item)) {
+		x := cloned(whole)
+		change(allOf(&x)[place])
+		list = append(list, x)
+	}
+	for place, one := range allOf(&whole) {
+		for _, stranger := range strangers() {
+			try(place, func(x *impl.Item) { *x = stranger })
+			for at := range len(one.Kids) + 1 {
+				try(place, func(x *impl.Item) { x.Kids = slices.Insert(x.Kids, at, stranger) })
 			}
 		}
-		for place, one := range allOf(&whole) {
-			for _, stranger := range strangers() {
-				try(place, func(x *impl.Item) { *x = stranger })
-				for at := range len(one.Kids) + 1 {
-					try(place, func(x *impl.Item) { x.Kids = slices.Insert(x.Kids, at, stranger) })
-				}
+		for at := range one.Kids {
+			try(place, func(x *impl.Item) { x.Kids = slices.Delete(x.Kids, at, at+1) })
+			try(place, func(x *impl.Item) { x.Kids = slices.Insert(x.Kids, at, cloned(x.Kids[at])) })
+			for other := range at {
+				try(place, func(x *impl.Item) { x.Kids[at], x.Kids[other] = x.Kids[other], x.Kids[at] })
 			}
-			for at := range one.Kids {
-				try(place, func(x *impl.Item) { x.Kids = slices.Delete(x.Kids, at, at+1) })
-				try(place, func(x *impl.Item) { x.Kids = slices.Insert(x.Kids, at, cloned(x.Kids[at])) })
-				for other := range at {
-					try(place, func(x *impl.Item) { x.Kids[at], x.Kids[other] = x.Kids[other], x.Kids[at] })
-				}
-			}
-			for _, tag := range []int{1, 2, 3, 4, 5, 12, 16, 19, 44, 48, 49, 52} {
-				if tag != 48 {
-					try(place, func(x *impl.Item) { x.Tag = tag })
-				}
+		}
+		for _, tag := range []int{1, 2, 3, 4, 5, 12, 16, 19, 44, 49, 52} {
+			try(place, func(x *impl.Item) { x.Tag = tag })
+		}
+	}
+	return list
+}
+
+func TestItemsThatAreNoLetter(t *testing.T) {
+	for _, c := range []impl.Cert{someLetter(), bareLetter(), fullLetter()} {
+		right := 0
+		for _, x := range itemsBeside(letterByHand(t, c)) {
+			if checkReadLetter(t, textByLibrary(t, x)) {
+				right++
 			}
 		}
 		if right < 20 {
